@@ -1,0 +1,1 @@
+"""Trains, and how to get there: see timeways.timetable."""
