@@ -16,6 +16,11 @@ def trip(days, *rows):
     return [2, days, len(numbers)] + numbers
 
 
+def ride(start, goes, goal, comes, days=EVERY_DAY):
+    """A trip of two calls, which comes and goes in one minute at each."""
+    return trip(days, (start, goes, goes), (goal, comes, comes))
+
+
 def walk(start, goal, minutes):
     return [3, start, goal, minutes]
 

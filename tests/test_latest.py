@@ -2,11 +2,7 @@
 
 import unittest
 
-from lines import EVERY_DAY, GREATEST, LEAST, ask, last_of, late, latest, stop, trip, walk
-
-
-def ride(start, goes, goal, comes, days=EVERY_DAY):
-    return trip(days, (start, goes, goes), (goal, comes, comes))
+from lines import GREATEST, LEAST, ask, last_of, late, latest, ride, stop, trip, walk
 
 
 class Ride(unittest.TestCase):

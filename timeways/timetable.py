@@ -8,7 +8,6 @@ TRIP = 2
 WALK = 3
 LATE = 4
 EARLIEST = 5
-LATEST = 6
 
 # How many whole numbers follow a call's number; a trip's list comes behind these.
 WIDTHS = {1: 1, 2: 1, 3: 3, 4: 4, 5: 4, 6: 4}
