@@ -5,6 +5,7 @@ from timeways.timetable import answers
 EVERY_DAY = 127
 LEAST = -2147483648
 GREATEST = 2147483647
+MOST_ROWS = 4096
 
 
 def stop(change=0):
@@ -37,6 +38,26 @@ def latest(start, goal, day, minute):
     return [6, start, goal, day, minute]
 
 
+def front(start, goal, day, minute, most=MOST_ROWS):
+    return [7, start, goal, day, minute, most]
+
+
+def profile(start, goal, day, first, last, most=MOST_ROWS):
+    return [8, start, goal, day, first, last, most]
+
+
+def reach(start, day, minute, most=MOST_ROWS):
+    return [9, start, day, minute, most]
+
+
+def journey(start, goal, day, minute, most=MOST_ROWS):
+    return [10, start, goal, day, minute, most]
+
+
+def board(where, day, minute, most=MOST_ROWS):
+    return [11, where, day, minute, most]
+
+
 def line(*calls):
     return [number for call in calls for number in call]
 
@@ -60,3 +81,21 @@ def ask(*calls):
 
 def last_of(*calls):
     return ask(*calls)[-1]
+
+
+def long_trip(chance, stop_count):
+    rows = []
+    minute = chance.randrange(2000)
+    for count in range(64):
+        come = min(2879, minute + chance.randrange(14))
+        minute = min(2879, come + chance.randrange(3))
+        rows.append((chance.randrange(stop_count), come, minute))
+    return trip(EVERY_DAY, *rows)
+
+
+def timetable(chance, stop_count, trip_count, walk_count):
+    calls = [stop(chance.randrange(6)) for count in range(stop_count)]
+    calls += [long_trip(chance, stop_count) for count in range(trip_count)]
+    for count in range(walk_count):
+        calls.append(walk(chance.randrange(stop_count), chance.randrange(stop_count), chance.randrange(30)))
+    return calls

@@ -94,6 +94,8 @@ class Language(unittest.TestCase):
                 if isinstance(node, ast.ListComp):
                     self.assertEqual(len(node.generators), 1)
                     self.assertLessEqual(len(node.generators[0].ifs), 1)
+                if isinstance(node, ast.Compare) and isinstance(node.ops[0], (ast.Is, ast.IsNot)):
+                    self.assertIn(ast.unparse(node.comparators[0]), ("None", "True", "False"))
                 if isinstance(node, ast.Constant):
                     self.assertIsInstance(node.value, (int, str, type(None)))
                 self.assertNotIsInstance(node, (ast.Div, ast.Pow, ast.MatMult, ast.Starred))

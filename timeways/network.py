@@ -7,12 +7,16 @@ class Network:
     def __init__(self, changes, runs, walks):
         self.changes = list(changes)
         self.runs = []
+        # Of each run the trip, and the day that it begins: -1, 0, 1.
+        self.origins = []
         self.departures = [[] for change in changes]
         self.footpaths = [[] for change in changes]
-        for stops, comes, goes in runs:
+        for trip, begins, stops, comes, goes in runs:
+            self.origins.append((trip, begins))
             self.add_run(stops, comes, goes)
-        for start, goal, minutes in walks:
-            self.footpaths[start].append((goal, minutes))
+        for number in range(len(walks)):
+            start, goal, minutes = walks[number]
+            self.footpaths[start].append((goal, minutes, number))
         # A search boards a stop's departures from the last one towards the first.
         self.departures = [sorted(departures) for departures in self.departures]
 
@@ -28,9 +32,12 @@ def mirrored_network(changes, runs, walks):
 
     A journey read from its end keeps all the rules of a journey (changes and walks
     mean the same both ways), so the latest departure is an earliest arrival here.
+    Runs keep their numbers; a run's calls are numbered from its end.
     """
     runs_back = []
-    for stops, comes, goes in runs:
-        runs_back.append((stops[::-1], [-go for go in goes[::-1]], [-come for come in comes[::-1]]))
+    for trip, begins, stops, comes, goes in runs:
+        came = [-go for go in goes[::-1]]
+        gone = [-come for come in comes[::-1]]
+        runs_back.append((trip, begins, stops[::-1], came, gone))
     walks_back = [(goal, start, minutes) for start, goal, minutes in walks]
     return Network(changes, runs_back, walks_back)

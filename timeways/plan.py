@@ -80,23 +80,27 @@ class Plan:
         return self.networks[key]
 
     def runs_around(self, day):
-        """The trips that begin on the day before, the day and the day after, in the day's minutes."""
-        runs = []
-        for shift in (-1, 0, 1):
-            runs.extend(self.runs_beginning((day + shift) % DAYS_OF_A_WEEK, shift * MINUTES_OF_A_DAY))
-        return runs
+        """The trips that begin on the day before, the day and the day after, in the day's minutes.
 
-    def runs_beginning(self, weekday, midnight):
+        They stand in the order of the trips and then of the days, so that of two runs
+        the one with the lesser number has the lesser row, on a board or in a journey.
+        """
         runs = []
         for trip in range(len(self.trips)):
-            days, stops, comes, goes = self.trips[trip]
-            if (days >> weekday) & 1 == 1:
-                call, minutes = self.lateness.get((trip, weekday), (0, 0))
-                # At the call where the lateness begins it still comes on time.
-                came = shifted(comes, call + 1, midnight, midnight + minutes)
-                gone = shifted(goes, call, midnight, midnight + minutes)
-                runs.append((stops, came, gone))
+            for begins in (-1, 0, 1):
+                weekday = (day + begins) % DAYS_OF_A_WEEK
+                if (self.trips[trip][0] >> weekday) & 1 == 1:
+                    runs.append(self.run_of(trip, begins, weekday))
         return runs
+
+    def run_of(self, trip, begins, weekday):
+        days, stops, comes, goes = self.trips[trip]
+        midnight = begins * MINUTES_OF_A_DAY
+        call, minutes = self.lateness.get((trip, weekday), (0, 0))
+        # At the call where the lateness begins it still comes on time.
+        came = shifted(comes, call + 1, midnight, midnight + minutes)
+        gone = shifted(goes, call, midnight, midnight + minutes)
+        return (trip, begins, stops, came, gone)
 
 
 def is_day(day):

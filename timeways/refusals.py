@@ -4,3 +4,4 @@ OUT_OF_RANGE = -2
 CANNOT_RUN = -4
 FULL = -8
 NO_WAY = -1
+TOO_MANY = -3

@@ -1,4 +1,4 @@
-"""The earliest arrivals from one stop at one minute, ride by ride."""
+"""The earliest arrivals, ride by ride."""
 
 # Later than any minute that a journey can end at.
 NEVER = 1000000
@@ -9,10 +9,10 @@ class Search:
 
     A departure is boarded once, when one is first ready for it, and of a run only the
     calls are looked at that no ride before has come to: so a whole search passes each
-    call of each run once at most.
+    call of each run once at most. That holds on if more is boarded when all is ridden.
     """
 
-    def __init__(self, network, start, minute):
+    def __init__(self, network):
         stop_count = len(network.changes)
         self.network = network
         self.taken = 0
@@ -24,6 +24,8 @@ class Search:
         self.unboarded = [len(departures) for departures in network.departures]
         self.first_calls = [len(stops) - 1 for stops, comes in network.runs]
         self.boardings = []
+
+    def begin(self, start, minute):
         self.arrive(start, minute, minute)
         self.walk_on(start, minute)
 
@@ -34,9 +36,9 @@ class Search:
             self.rides[stop] = self.taken
         if ready < self.ready[stop]:
             self.ready[stop] = ready
-            self.board(stop, ready)
+            self.get_on(stop, ready)
 
-    def board(self, stop, ready):
+    def get_on(self, stop, ready):
         departures = self.network.departures[stop]
         place = self.unboarded[stop]
         while place > 0 and departures[place - 1][0] >= ready:
@@ -45,7 +47,7 @@ class Search:
         self.unboarded[stop] = place
 
     def walk_on(self, stop, minute):
-        for goal, minutes in self.network.footpaths[stop]:
+        for goal, minutes, number in self.network.footpaths[stop]:
             self.arrive(goal, minute + minutes, minute + minutes)
 
     def take_ride(self):
